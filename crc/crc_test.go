@@ -10,6 +10,7 @@ import (
 	"testing"
 
 	"gemel/crc"
+	"gemel/probe"
 )
 
 // told tells a sum in another way than the program does: the library's one takes the lowest bits first, and is else the same.
@@ -29,13 +30,6 @@ func dice(n int) []byte {
 		b[i] = byte(r.Uint32())
 	}
 	return b
-}
-
-// roomy tells bytes that have spare room behind them, and all their memory.
-func roomy(s string) (b, all []byte) {
-	all = bytes.Repeat([]byte{0xA5}, len(s)+16)
-	copy(all, s)
-	return all[:len(s)], all
 }
 
 func TestSum(t *testing.T) { // P2.1
@@ -217,7 +211,7 @@ func wantWrong(t *testing.T, fixed []byte, at int, turns []byte) {
 
 func TestHandedInStays(t *testing.T) { // rules 4 and 8
 	for _, s := range []string{"", "a", "abc", "abcd", "123456789\xfc\x89\x19\x18"} {
-		b, all := roomy(s)
+		b, all := probe.Roomy([]byte(s), 0xA5)
 		before := slices.Clone(all)
 		crc.Sum(b)
 		crc.More(5, b)
@@ -231,21 +225,9 @@ func TestHandedInStays(t *testing.T) { // rules 4 and 8
 
 func TestHandedOutIsNew(t *testing.T) { // rule 4
 	for _, s := range []string{"", "a", "123456789"} {
-		b, all := roomy(s)
-		before := slices.Clone(all)
-		out, other := crc.Fix(b), crc.Fix(b)
-		want := slices.Clone(other)
-		for i := range out[:cap(out)] {
-			out[:cap(out)][i] ^= 0xff
-		}
-		if !bytes.Equal(all, before) {
-			t.Errorf("Fix(%x): what was handed in changes with the answer", s)
-		}
-		for i := range all {
-			all[i] ^= 0xff
-		}
-		if !bytes.Equal(other, want) {
-			t.Errorf("Fix(%x): the answer changes with what was handed in, or with another one", s)
+		b, all := probe.Roomy([]byte(s), 0xA5)
+		if !probe.Apart(all, crc.Fix(b), crc.Fix(b)) {
+			t.Errorf("Fix(%x): what was handed out shares memory", s)
 		}
 	}
 }

@@ -12,21 +12,11 @@ import (
 
 	"gemel/api"
 	"gemel/frame"
+	"gemel/probe"
 )
 
 // sizes are those of bodies around which a frame's form changes.
 var sizes = []int{0, 1, 2, 3, 4, 5, 62, 63, 64, 65, 16383, 16384, 16385, 70000}
-
-// lengthOf tells what the bytes of a length are to be.
-func lengthOf(n int) []byte {
-	switch {
-	case n < 64:
-		return []byte{byte(n)}
-	case n < 16384:
-		return binary.BigEndian.AppendUint16(nil, 1<<14|uint16(n))
-	}
-	return binary.BigEndian.AppendUint32(nil, 2<<30|uint32(n))
-}
 
 // summed tells bytes with their sum behind them, in another way than the program does: the library's sum takes the lowest bits first, and is else the same.
 func summed(b []byte) []byte {
@@ -39,7 +29,7 @@ func summed(b []byte) []byte {
 
 // laid tells what a body's frame is to be.
 func laid(body []byte) []byte {
-	return summed(slices.Concat([]byte{0xb5}, lengthOf(len(body)), body))
+	return summed(slices.Concat([]byte{0xb5}, probe.Laid(len(body)), body))
 }
 
 // dice tells bytes by chance, the same ones for the same length.
@@ -348,7 +338,7 @@ func TestTurnedAnywhere(t *testing.T) { // P3.7
 	r := rand.New(rand.NewPCG(10, 11))
 	for _, body := range [][]byte{nil, {0}, []byte("ab"), []byte("abc"), dice(20), dice(63), dice(64), dice(300), laid([]byte("in"))} {
 		b := frame.Wrap(body)
-		for at := 1 + len(lengthOf(len(body))); at < len(b); at++ {
+		for at := 1 + len(probe.Laid(len(body))); at < len(b); at++ {
 			for turn := 1; turn < 256; turn++ {
 				wantTurnedShut(t, b, at, []byte{byte(turn)})
 			}
@@ -378,15 +368,9 @@ func wantTurnedShut(t *testing.T, b []byte, at int, turns []byte) {
 	}
 }
 
-// roomy tells bytes that have spare room behind them, and all their memory.
-func roomy(b []byte) (part, all []byte) {
-	all = append(slices.Clone(b), bytes.Repeat([]byte{0xb5}, 64)...)
-	return all[:len(b)], all
-}
-
 func TestHandedInStays(t *testing.T) { // rules 4 and 8
 	for _, s := range [][]byte{nil, []byte("body"), laid([]byte("ab")), append(laid(nil), laid([]byte("ab"))...), append(laid([]byte("ab")), 0xb5), turned(laid([]byte("ab")), 2), stub("\x40\x01a")} {
-		b, all := roomy(s)
+		b, all := probe.Roomy(s, 0xb5)
 		before := slices.Clone(all)
 		frame.Wrap(b)
 		frame.Open(b)
@@ -400,37 +384,22 @@ func TestHandedInStays(t *testing.T) { // rules 4 and 8
 	}
 }
 
-// flip turns all bytes of a list's memory, spare room too.
-func flip(b []byte) {
-	for i := range b[:cap(b)] {
-		b[:cap(b)][i] ^= 0xff
-	}
-}
-
-// wantApart asks that no two of lists share memory.
 func wantApart(t *testing.T, what string, lists ...[]byte) {
 	t.Helper()
-	for i, b := range lists {
-		for k, other := range lists {
-			before := slices.Clone(other[:cap(other)])
-			flip(b)
-			if i != k && !bytes.Equal(other[:cap(other)], before) {
-				t.Errorf("%s: lists %d and %d share memory", what, i, k)
-			}
-			flip(b)
-		}
+	if !probe.Apart(lists...) {
+		t.Errorf("%s: lists share memory", what)
 	}
 }
 
 func TestHandedOutIsNew(t *testing.T) { // rule 4
 	for _, s := range []string{"", "a", "some bytes", string(dice(64))} {
-		b, all := roomy([]byte(s))
+		b, all := probe.Roomy([]byte(s), 0xb5)
 		wantApart(t, "Wrap", all, frame.Wrap(b), frame.Wrap(b))
-		b, all = roomy(laid([]byte(s)))
+		b, all = probe.Roomy(laid([]byte(s)), 0xb5)
 		one, _, _ := frame.Open(b)
 		two, _, _ := frame.Open(b)
 		wantApart(t, "Open", all, one, two)
-		b, all = roomy(append(laid([]byte(s)), laid([]byte("x"+s))...))
+		b, all = probe.Roomy(append(laid([]byte(s)), laid([]byte("x"+s))...), 0xb5)
 		l, _, _ := frame.Rows(b)
 		m, _, _ := frame.Rows(b)
 		wantApart(t, "Rows", all, l[0], l[1], m[0], m[1])

@@ -2,7 +2,6 @@ package num_test
 
 import (
 	"bytes"
-	"encoding/binary"
 	"math"
 	"math/rand/v2"
 	"slices"
@@ -11,6 +10,7 @@ import (
 
 	"gemel/api"
 	"gemel/num"
+	"gemel/probe"
 )
 
 // edges are the numbers that can be laid, around which the count of bytes or the highest bits change.
@@ -29,26 +29,6 @@ func some() []int {
 	return out
 }
 
-// laid tells what a number's bytes are to be, told in another way than the program does.
-func laid(n int) []byte {
-	switch {
-	case n < 64:
-		return []byte{byte(n)}
-	case n < 16384:
-		return binary.BigEndian.AppendUint16(nil, 1<<14|uint16(n))
-	case n < 1<<30:
-		return binary.BigEndian.AppendUint32(nil, 2<<30|uint32(n))
-	}
-	return binary.BigEndian.AppendUint64(nil, 3<<62|uint64(n))
-}
-
-// roomy tells bytes that have spare room behind them, and all their memory.
-func roomy(s string) (b, all []byte) {
-	all = bytes.Repeat([]byte{0xA5}, len(s)+64)
-	copy(all, s)
-	return all[:len(s)], all
-}
-
 func TestSize(t *testing.T) { // P1.1
 	for n, want := range map[int]int{0: 1, 1: 1, 63: 1, 64: 2, 16383: 2, 16384: 4, 1<<30 - 1: 4, 1 << 30: 8, 1 << 32: 8, api.MaxNum - 1: 8, api.MaxNum: 8} {
 		if got := num.Size(n); got != want {
@@ -61,8 +41,8 @@ func TestSize(t *testing.T) { // P1.1
 		}
 	}
 	for _, n := range some() {
-		if got := num.Size(n); got != len(laid(n)) {
-			t.Errorf("Size(%d) = %d, want %d", n, got, len(laid(n)))
+		if got := num.Size(n); got != len(probe.Laid(n)) {
+			t.Errorf("Size(%d) = %d, want %d", n, got, len(probe.Laid(n)))
 		}
 	}
 }
@@ -86,7 +66,7 @@ func TestPut(t *testing.T) { // P1.1
 	}
 	for _, ahead := range []string{"", "x", "\x40", "two words"} {
 		for _, n := range some() {
-			if got := num.Put([]byte(ahead), n); string(got) != ahead+string(laid(n)) {
+			if got := num.Put([]byte(ahead), n); string(got) != ahead+string(probe.Laid(n)) {
 				t.Errorf("Put(%q, %d) = %x", ahead, n, got)
 			}
 		}
@@ -101,7 +81,7 @@ func TestPut(t *testing.T) { // P1.1
 func TestGet(t *testing.T) { // P1.2
 	for _, behind := range []string{"", "\x00", "\xff\xff", "and more of them"} {
 		for _, n := range some() {
-			b := laid(n)
+			b := probe.Laid(n)
 			got, size, e := num.Get(append(slices.Clone(b), behind...))
 			if got != n || size != len(b) || e != api.OK {
 				t.Errorf("Get of %d and %q = %d, %d, %d", n, behind, got, size, int(e))
@@ -129,7 +109,7 @@ func TestGetCut(t *testing.T) { // P1.2
 		}
 	}
 	for _, n := range some() { // the missing bytes stand behind the list's length
-		b := laid(n)
+		b := probe.Laid(n)
 		for have := range len(b) {
 			wantNoNumber(t, b[:have], api.ErrCut)
 		}
@@ -152,7 +132,7 @@ func TestPutText(t *testing.T) { // P1.3
 	for _, n := range []int{0, 1, 2, 63, 64, 65, 16383, 16384, 70000} {
 		s := strings.Repeat("\xfe\x00é", n)[:n]
 		for _, ahead := range []string{"", "x", "ahead"} {
-			if got := num.PutText([]byte(ahead), s); string(got) != ahead+string(laid(n))+s {
+			if got := num.PutText([]byte(ahead), s); string(got) != ahead+string(probe.Laid(n))+s {
 				t.Errorf("PutText(%q, %d bytes) = %d bytes", ahead, n, len(got))
 			}
 		}
@@ -162,7 +142,7 @@ func TestPutText(t *testing.T) { // P1.3
 func TestGetText(t *testing.T) { // P1.3
 	for _, n := range []int{0, 1, 2, 63, 64, 65, 16383, 16384, 70000} {
 		s := strings.Repeat("\xfe\x00é", n)[:n]
-		b := append(laid(n), s...)
+		b := append(probe.Laid(n), s...)
 		for _, most := range []int{n, n + 1, math.MaxInt} {
 			for _, behind := range []string{"", "\x00", "behind"} {
 				got, size, e := num.GetText(append(slices.Clone(b), behind...), most)
@@ -190,7 +170,7 @@ func TestGetTextErrors(t *testing.T) { // P1.3
 		wantNoText(t, []byte("\x80\x00\x00\x01a"), most, api.ErrForm)
 	}
 	for _, n := range []int{1, 2, 63, 64, 65, 16384} {
-		b := append(laid(n), bytes.Repeat([]byte("z"), n)...)
+		b := append(probe.Laid(n), bytes.Repeat([]byte("z"), n)...)
 		for _, most := range []int{n - 1, 0, -1, math.MinInt} {
 			wantNoText(t, b, most, api.ErrLong)
 			wantNoText(t, b[:len(b)-1], most, api.ErrLong) // cut as well: the length comes first
@@ -205,9 +185,9 @@ func TestGetTextErrors(t *testing.T) { // P1.3
 		wantNoText(t, []byte("\x00more"), most, api.ErrLong)
 	}
 	for _, n := range edges[5:] {
-		wantNoText(t, append(laid(n), "few"...), n, api.ErrCut)
-		wantNoText(t, append(laid(n), "few"...), math.MaxInt, api.ErrCut)
-		wantNoText(t, append(laid(n), "few"...), n-1, api.ErrLong)
+		wantNoText(t, append(probe.Laid(n), "few"...), n, api.ErrCut)
+		wantNoText(t, append(probe.Laid(n), "few"...), math.MaxInt, api.ErrCut)
+		wantNoText(t, append(probe.Laid(n), "few"...), n-1, api.ErrLong)
 	}
 }
 
@@ -220,7 +200,7 @@ func TestAll(t *testing.T) { // P1.4
 	var b []byte
 	var want []int
 	for _, n := range append(some(), 7, 7, 0, 0) {
-		b, want = append(b, laid(n)...), append(want, n)
+		b, want = append(b, probe.Laid(n)...), append(want, n)
 		if l, e := num.All(b); !slices.Equal(l, want) || e != api.OK {
 			t.Fatalf("All of %d numbers up to %d = %d numbers, %d", len(want), n, len(l), int(e))
 		}
@@ -315,7 +295,7 @@ func TestOrder(t *testing.T) { // P1.6
 
 func TestHandedInStays(t *testing.T) { // rules 4 and 8
 	for _, s := range []string{"", "\x05", "\x02ab", "\x40\x40", "\x05\x40", "\x40\x3f"} {
-		b, all := roomy(s)
+		b, all := probe.Roomy([]byte(s), 0xA5)
 		before := slices.Clone(all)
 		for _, n := range append(slices.Clone(edges), none...) {
 			num.Put(b, n)
@@ -332,42 +312,27 @@ func TestHandedInStays(t *testing.T) { // rules 4 and 8
 	}
 }
 
-// wantNew asks that what was handed out shares no memory with what was handed in, spare room too.
-func wantNew(t *testing.T, what string, out, all []byte) {
+func wantApart(t *testing.T, what string, lists ...[]byte) {
 	t.Helper()
-	text, before := string(out), slices.Clone(all)
-	for i := range out[:cap(out)] {
-		out[:cap(out)][i] ^= 0xff
+	if !probe.Apart(lists...) {
+		t.Errorf("%s: what was handed out shares memory", what)
 	}
-	if !bytes.Equal(all, before) {
-		t.Errorf("%s: what was handed in changes with the answer", what)
-	}
-	for i := range out[:cap(out)] {
-		out[:cap(out)][i] ^= 0xff
-	}
-	for i := range all {
-		all[i] ^= 0xff
-	}
-	if string(out) != text {
-		t.Errorf("%s: the answer changes with what was handed in", what)
-	}
-	copy(all, before)
 }
 
 func TestHandedOutIsNew(t *testing.T) { // rule 4
 	for _, s := range []string{"", "x", "some bytes"} {
-		b, all := roomy(s)
+		b, all := probe.Roomy([]byte(s), 0xA5)
 		for _, n := range append(slices.Clone(edges), none...) {
-			wantNew(t, "Put", num.Put(b, n), all)
-			wantNew(t, "Put", num.Put(all, n), all)
+			wantApart(t, "Put", num.Put(b, n), all)
+			wantApart(t, "Put", num.Put(all, n), all)
 		}
 		for _, text := range []string{"", "a", strings.Repeat("a", 40)} {
-			wantNew(t, "PutText", num.PutText(b, text), all)
+			wantApart(t, "PutText", num.PutText(b, text), all)
 		}
 		one, two := num.Put(b, 5), num.Put(b, 500)
-		wantNew(t, "two of Put", one, two[:cap(two)])
+		wantApart(t, "two of Put", one, two)
 		one, two = num.PutText(b, "a"), num.PutText(b, "bc")
-		wantNew(t, "two of PutText", one, two[:cap(two)])
+		wantApart(t, "two of PutText", one, two)
 	}
 	b := []byte("\x03abc")
 	s, _, _ := num.GetText(b, 3)
