@@ -515,12 +515,6 @@ func TestShortTexts(t *testing.T) { // P7.5: all texts of a few parts
 	}
 }
 
-// roomy tells groups that have spare room behind them, full of one group, and all their memory.
-func roomy(l []api.Group, spare api.Group) (part, whole []api.Group) {
-	whole = slices.Concat(l, slices.Repeat([]api.Group{spare}, 8))
-	return whole[:len(l)], whole
-}
-
 func TestHandedInStays(t *testing.T) { // rules 4 and 8
 	lists := some()[:40]
 	for _, c := range none {
@@ -528,7 +522,7 @@ func TestHandedInStays(t *testing.T) { // rules 4 and 8
 	}
 	for _, spare := range groups("more", 1, "A", 3) {
 		for _, l := range lists {
-			part, whole := roomy(l, spare)
+			part, whole := probe.Roomy(l, spare)
 			before := slices.Clone(whole)
 			wantGood(t, part, policy.Good(slices.Clip(slices.Clone(l)))) // what stands behind the length plays no part
 			policy.Find(part, "more")
@@ -554,19 +548,6 @@ func TestHandedInStays(t *testing.T) { // rules 4 and 8
 	}
 }
 
-// share tells whether two lists share memory, spare room too.
-func share(a, b []api.Group) bool {
-	a, b = a[:cap(a)], b[:cap(b)]
-	for i := range a {
-		for k := range b {
-			if &a[i] == &b[k] {
-				return true
-			}
-		}
-	}
-	return false
-}
-
 func TestHandedOutIsNew(t *testing.T) { // rule 4
 	for _, l := range some()[:40] {
 		b1, _ := policy.Encode(l)
@@ -579,7 +560,7 @@ func TestHandedOutIsNew(t *testing.T) { // rule 4
 		for i := range in { // nothing that was handed out hangs on what was handed in
 			in[i] = 0xff
 		}
-		if !probe.Apart(b1, b2) || share(l1, l2) || share(l3, l4) || share(l1, l3) || !slices.Equal(l1, l) || !slices.Equal(l3, l) {
+		if !probe.Apart(b1, b2) || !probe.Apart(l1, l2, l3, l4) || !slices.Equal(l1, l) || !slices.Equal(l3, l) {
 			t.Errorf("lists handed out share memory, of %v", l)
 		}
 	}

@@ -1,12 +1,9 @@
 // Package probe helps the layers' tests: it tells bytes as they are to be, and looks at memory. The program itself calls none of it.
 package probe
 
-import (
-	"bytes"
-	"slices"
-)
+import "slices"
 
-const spareSize = 64 // bytes of spare room behind roomy ones
+const spareSize = 64 // items of spare room behind a roomy list
 
 // Laid tells what a number's bytes are to be (doc/01-num.md), told in another way than num tells them.
 func Laid(n int) []byte {
@@ -21,31 +18,31 @@ func Laid(n int) []byte {
 	return []byte{0xc0 | byte(n>>56), byte(n >> 48), byte(n >> 40), byte(n >> 32), byte(n >> 24), byte(n >> 16), byte(n >> 8), byte(n)}
 }
 
-// Roomy tells bytes that have spare room behind them, full of one byte, and all their memory.
-func Roomy(b []byte, spare byte) (part, whole []byte) {
-	whole = bytes.Repeat([]byte{spare}, len(b)+spareSize)
-	copy(whole, b)
-	return whole[:len(b)], whole
+// Roomy tells a list that has spare room behind it, full of one item, and all its memory.
+func Roomy[T any](l []T, spare T) (part, whole []T) {
+	whole = slices.Concat(l, slices.Repeat([]T{spare}, spareSize))
+	return whole[:len(l)], whole
 }
 
 // Apart tells whether no two of lists share memory, spare room too.
-func Apart(lists ...[]byte) bool {
-	apart := true
-	for i, b := range lists {
+func Apart[T any](lists ...[]T) bool {
+	for i, l := range lists {
 		for _, other := range lists[i+1:] {
-			before := slices.Clone(other[:cap(other)])
-			turn(b)
-			apart = apart && bytes.Equal(other[:cap(other)], before)
-			turn(b)
+			if holds(l, other) || holds(other, l) {
+				return false
+			}
 		}
 	}
-	return apart
+	return true
 }
 
-// turn turns all bits of a list's memory, spare room too.
-func turn(b []byte) {
-	whole := b[:cap(b)]
-	for i := range whole {
-		whole[i] ^= 0xff
+// holds tells whether another list begins in a list's memory: of two that share some, one does so in the other one's.
+func holds[T any](l, other []T) bool {
+	l, other = l[:cap(l)], other[:cap(other)]
+	for i := range l {
+		if len(other) > 0 && &l[i] == &other[0] {
+			return true
+		}
 	}
+	return false
 }

@@ -21,6 +21,10 @@ func TestRoomy(t *testing.T) {
 	if string(part) != "some" || cap(part) <= len(part) || !bytes.HasPrefix(whole, []byte("some\x07\x07")) || probe.Apart(part, whole) || !probe.Apart(b, whole) {
 		t.Errorf("Roomy = %q of %q", part, whole)
 	}
+	words, all := probe.Roomy([]string{"some"}, "more")
+	if len(words) != 1 || words[0] != "some" || len(all) <= 2 || all[0] != "some" || all[1] != "more" || probe.Apart(words, all) {
+		t.Errorf("Roomy = %q of %q", words, all)
+	}
 }
 
 func TestApart(t *testing.T) {
@@ -35,6 +39,10 @@ func TestApart(t *testing.T) {
 		if !probe.Apart(lists...) {
 			t.Errorf("%q are told to share memory", lists)
 		}
+	}
+	pairs := [][2]int{{1, 2}, {3, 4}, {5, 6}}
+	if probe.Apart(pairs[:1], pairs[2:], pairs[:0]) || !probe.Apart(pairs[:1:1], pairs[1:2:2], pairs[2:], [][2]int{{1, 2}}) {
+		t.Error("Apart of pairs")
 	}
 	if string(whole) != before {
 		t.Errorf("the memory has become %q", whole)
