@@ -21,34 +21,14 @@ const (
 	del  = api.DeleteWins
 )
 
-// schemas are some of 1 to MaxGroups groups.
-var schemas = [][]api.Group{
-	{{Name: "a", Policy: last}},
-	{{Name: "b", Policy: del}},
-	{{Name: "a", Policy: last}, {Name: "b", Policy: del}},
-	{{Name: "b", Policy: del}, {Name: "a", Policy: last}},
-	{{Name: "a", Policy: last}, {Name: "b", Policy: del}, {Name: "c", Policy: last}},
-	{{Name: "a", Policy: del}, {Name: "b", Policy: last}, {Name: "c", Policy: last}, {Name: "d", Policy: del}},
-	{{Name: "name", Policy: last}, {Name: "tags", Policy: last}, {Name: "abcdefghijkl", Policy: last}, {Name: "z", Policy: last}},
-}
+// schemas are some of 1 to MaxGroups groups, noSchemas groups that are none.
+var (
+	schemas   = probe.Schemas()
+	noSchemas = probe.NoSchemas()
+)
 
 // ab is the chapter's schema.
 var ab = schemas[2]
-
-// noSchemas are groups that are none, with what policy says of them.
-var noSchemas = []struct {
-	l []api.Group
-	e api.Errno
-}{
-	{nil, api.ErrArg},
-	{[]api.Group{}, api.ErrArg},
-	{[]api.Group{{Name: "a", Policy: last}, {Name: "b", Policy: del}, {Name: "c", Policy: last}, {Name: "d", Policy: del}, {Name: "e", Policy: last}}, api.ErrLong},
-	{slices.Repeat([]api.Group{{Name: "a", Policy: last}}, 100), api.ErrLong},
-	{[]api.Group{{Name: "a", Policy: 3}}, api.ErrArg},
-	{[]api.Group{{Name: "a", Policy: last}, {Name: "b"}}, api.ErrArg},
-	{[]api.Group{{Name: "A", Policy: last}, {Name: "b", Policy: del}}, api.ErrArg},
-	{[]api.Group{{Name: "a", Policy: last}, {Name: "a", Policy: del}}, api.ErrGroup},
-}
 
 // key32 is a key of as many bytes as may be.
 var key32 = strings.Repeat("\x00\xffé=,k", 8)[:api.MaxKey]
@@ -245,15 +225,15 @@ func TestGoodErrors(t *testing.T) { // P10.1
 		for _, r := range faulty(l) {
 			wantGood(t, l, r, wrong(l, r))
 			for _, x := range noSchemas {
-				wantGood(t, x.l, r, x.e)
+				wantGood(t, x.Groups, r, x.Err)
 			}
 		}
 	}
 	for _, x := range noSchemas {
-		wantGood(t, x.l, api.Row{}, x.e)
-		wantGood(t, x.l, api.Row{Key: "k", Cells: make([]api.Cell, len(x.l))}, x.e)
-		wantGood(t, x.l, api.Row{Key: longKeys[0], Cells: make([]api.Cell, len(x.l))}, x.e)
-		wantGood(t, x.l, api.Row{Key: "k", Cells: slices.Repeat(badCells[:1], len(x.l))}, x.e)
+		wantGood(t, x.Groups, api.Row{}, x.Err)
+		wantGood(t, x.Groups, api.Row{Key: "k", Cells: make([]api.Cell, len(x.Groups))}, x.Err)
+		wantGood(t, x.Groups, api.Row{Key: longKeys[0], Cells: make([]api.Cell, len(x.Groups))}, x.Err)
+		wantGood(t, x.Groups, api.Row{Key: "k", Cells: slices.Repeat(badCells[:1], len(x.Groups))}, x.Err)
 	}
 }
 
@@ -279,7 +259,7 @@ func TestNew(t *testing.T) { // P10.1
 	}
 	for _, x := range noSchemas {
 		for _, key := range slices.Concat(goodKeys, longKeys, []string{""}) {
-			wantNoNew(t, x.l, key, x.e)
+			wantNoNew(t, x.Groups, key, x.Err)
 		}
 	}
 }
@@ -349,8 +329,8 @@ func TestWriteErrors(t *testing.T) { // P10.2
 				}
 			}
 			for _, x := range noSchemas {
-				wantNoWrite(t, x.l, r, 0, bothCells[1], x.e)
-				wantNoWrite(t, x.l, r, -1, badCells[0], x.e)
+				wantNoWrite(t, x.Groups, r, 0, bothCells[1], x.Err)
+				wantNoWrite(t, x.Groups, r, -1, badCells[0], x.Err)
 			}
 		}
 		for i, g := range l {
@@ -407,8 +387,8 @@ func TestJoinErrors(t *testing.T) { // P10.2
 			wantNoJoin(t, l, r, bad[(i*7+3)%len(bad)], e) // a's error goes ahead of b's
 			wantNoJoin(t, l, r, r, e)
 			for _, x := range noSchemas {
-				wantNoJoin(t, x.l, r, good, x.e)
-				wantNoJoin(t, x.l, good, r, x.e)
+				wantNoJoin(t, x.Groups, r, good, x.Err)
+				wantNoJoin(t, x.Groups, good, r, x.Err)
 			}
 		}
 		wantNoJoin(t, l, good, other, api.ErrRow)
@@ -422,9 +402,9 @@ func TestJoinErrors(t *testing.T) { // P10.2
 		}
 		wantNoJoin(t, l, one(l, "k", 0, api.Cell{}), one(l, "k\x00", 0, api.Cell{}), api.ErrRow)
 		for _, x := range noSchemas {
-			wantNoJoin(t, x.l, good, good, x.e)
-			wantNoJoin(t, x.l, good, other, x.e)
-			wantNoJoin(t, x.l, api.Row{}, api.Row{}, x.e)
+			wantNoJoin(t, x.Groups, good, good, x.Err)
+			wantNoJoin(t, x.Groups, good, other, x.Err)
+			wantNoJoin(t, x.Groups, api.Row{}, api.Row{}, x.Err)
 		}
 	}
 }
@@ -559,8 +539,8 @@ func TestViewOfBad(t *testing.T) { // P10.3
 		wantNoView(t, l, api.Row{Key: "k", Cells: append(slices.Clone(full.Cells), x)})
 		wantNoView(t, l, api.Row{Key: "k", Cells: full.Cells[1:]})
 		for _, bad := range noSchemas {
-			wantNoView(t, bad.l, full)
-			wantNoView(t, bad.l, api.Row{Key: "k", Cells: slices.Repeat([]api.Cell{x}, len(bad.l))})
+			wantNoView(t, bad.Groups, full)
+			wantNoView(t, bad.Groups, api.Row{Key: "k", Cells: slices.Repeat([]api.Cell{x}, len(bad.Groups))})
 		}
 	}
 }
@@ -611,9 +591,9 @@ func TestPutOfBad(t *testing.T) { // P10.4
 				wantPut(t, ahead, l, r, "")
 			}
 			for _, x := range noSchemas {
-				wantPut(t, ahead, x.l, one(l, "k", 0, bothCells[1]), "")
-				wantPut(t, ahead, x.l, api.Row{}, "")
-				wantPut(t, ahead, x.l, api.Row{Key: "k", Cells: make([]api.Cell, len(x.l))}, "")
+				wantPut(t, ahead, x.Groups, one(l, "k", 0, bothCells[1]), "")
+				wantPut(t, ahead, x.Groups, api.Row{}, "")
+				wantPut(t, ahead, x.Groups, api.Row{Key: "k", Cells: make([]api.Cell, len(x.Groups))}, "")
 			}
 		}
 	}
@@ -687,7 +667,7 @@ func TestGetErrors(t *testing.T) { // P10.4
 		}
 		for _, x := range noSchemas { // policy's error goes ahead of those of bytes
 			for _, b := range [][]byte{nil, {0}, {0xff}, []byte("\x01k"), []byte("\x01k\x00\x00"), append([]byte("\x01k"), zeros...)} {
-				wantNoRow(t, b, x.l, x.e)
+				wantNoRow(t, b, x.Groups, x.Err)
 			}
 		}
 	}
