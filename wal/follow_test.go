@@ -228,6 +228,9 @@ func TestFailureAnywhere(t *testing.T) { // P16.5 to P16.8: at every operation o
 					if p.d.On() {
 						t.Fatalf("size %d: no failure in operation %d", size, n)
 					}
+					if got := p.d.Ops(); got != before+n { // the one in which the power fails is none
+						t.Fatalf("size %d: a failure behind %d operations, and Ops is %d", size, before+n, got)
+					}
 					p.recover()
 					p.goOn()
 				}
