@@ -39,7 +39,7 @@ type player struct {
 
 func newPlayer(t *testing.T, size int) *player {
 	t.Helper()
-	p := &player{t: t, d: disk.New(ample), size: size, begins: []int{1}}
+	p := &player{t: t, d: disk.New(probe.Ample), size: size, begins: []int{1}}
 	p.open()
 	return p
 }
@@ -293,7 +293,7 @@ func TestAnything(t *testing.T) { // P16.2 to P16.8: whatever is done, and where
 
 func TestHandedInStays(t *testing.T) { // rules 4 and 8
 	for _, size := range []int{1, 1000} {
-		d := disk.New(ample)
+		d := disk.New(probe.Ample)
 		l := open(t, d, size, 1)
 		var all []string
 		for i, rec := range []string{"", "x", "some bytes", strings.Repeat("x", 5000)} {
@@ -317,7 +317,7 @@ func TestHandedInStays(t *testing.T) { // rules 4 and 8
 
 func TestHandedOutIsNew(t *testing.T) { // rules 4 and 8
 	for _, size := range []int{1, 30, 1000} {
-		d := disk.New(ample)
+		d := disk.New(probe.Ample)
 		l := open(t, d, size, 1)
 		want := []string{"a", "", "some bytes", strings.Repeat("x", 5000), "b"}
 		for i, rec := range want {

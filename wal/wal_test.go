@@ -11,13 +11,11 @@ import (
 	"gemel/api"
 	"gemel/disk"
 	"gemel/frame"
+	"gemel/probe"
 	"gemel/wal"
 )
 
-const (
-	ample    = 1 << 30         // room for whatever files have
-	greatest = 999_999_999_999 // that a segment's name tells
-)
+const greatest = 999_999_999_999 // that a segment's name tells
 
 // framed tells the frames of records, one behind the other.
 func framed(records ...string) string {
@@ -43,31 +41,17 @@ func nameOf(begin int) string { return fmt.Sprintf("w%012d", begin) }
 // laid tells a disk with these files, all sure.
 func laid(t *testing.T, files map[string]string) *disk.Disk {
 	t.Helper()
-	d := disk.New(ample)
-	for _, name := range slices.Sorted(maps.Keys(files)) {
-		for _, e := range []api.Errno{d.Make(name), d.Append(name, []byte(files[name])), d.Sync(name)} {
-			if e != api.OK {
-				t.Fatalf("%s of %d bytes: %d", name, len(files[name]), int(e))
-			}
-		}
+	d := probe.Disk(files)
+	if d == nil {
+		t.Fatalf("no disk has the files %.200q", files)
 	}
 	return d
-}
-
-// filesOf tells all files of a disk.
-func filesOf(d *disk.Disk) map[string]string {
-	out := map[string]string{}
-	for _, name := range d.Names() {
-		b, _ := d.Read(name)
-		out[name] = string(b)
-	}
-	return out
 }
 
 // wantFiles wants that a disk has just these files.
 func wantFiles(t *testing.T, d *disk.Disk, want map[string]string) {
 	t.Helper()
-	if got := filesOf(d); !maps.Equal(got, want) {
+	if got := probe.Files(d); !maps.Equal(got, want) {
 		t.Fatalf("files %.200q, want %.200q", got, want)
 	}
 }
@@ -75,7 +59,7 @@ func wantFiles(t *testing.T, d *disk.Disk, want map[string]string) {
 // wantSure wants that a failure that keeps nothing leaves all files as they are.
 func wantSure(t *testing.T, d *disk.Disk) {
 	t.Helper()
-	before := filesOf(d)
+	before := probe.Files(d)
 	d.Fail(0)
 	d.Power()
 	wantFiles(t, d, before)
@@ -103,7 +87,7 @@ func open(t *testing.T, d *disk.Disk, size, first int, want ...string) *wal.Log 
 // wantShut wants that a log is not opened, with this error, and that the disk is as it was.
 func wantShut(t *testing.T, d *disk.Disk, size int, want api.Errno) {
 	t.Helper()
-	before, ops, fails, used := filesOf(d), d.Ops(), d.Fails(), d.Used()
+	before, ops, fails, used := probe.Files(d), d.Ops(), d.Fails(), d.Used()
 	if l, records, e := wal.Open(d, size); l != nil || len(records) != 0 || e != want {
 		t.Fatalf("Open: %d records, %d, want %d", len(records), int(e), int(want))
 	}
@@ -235,7 +219,7 @@ func TestOpenErrorsInOrder(t *testing.T) { // P16.2
 
 func TestOpenSizes(t *testing.T) { // P16.2 and P16.3
 	for _, size := range []int{1, 2, 6, 20, 1<<20 - 1, 1 << 20} {
-		d := disk.New(ample)
+		d := disk.New(probe.Ample)
 		l := open(t, d, size, 1)
 		want := map[string]string{nameOf(1): ""}
 		wantFiles(t, d, want)
@@ -324,7 +308,7 @@ func TestOpenSegments(t *testing.T) { // P16.2 and P16.4
 }
 
 func TestOpenManySegments(t *testing.T) { // P16.2 and P16.8
-	d := disk.New(ample)
+	d := disk.New(probe.Ample)
 	l := open(t, d, 1, 1)
 	var all []string
 	for i := range 64 {
@@ -542,7 +526,7 @@ func TestOpenOperations(t *testing.T) { // P16.2: what is whole is synced, and n
 }
 
 func TestOpenMakesSure(t *testing.T) { // P16.2 and P16.4: what is there when the log is opened is sure
-	d := disk.New(ample)
+	d := disk.New(probe.Ample)
 	l := open(t, d, 100, 1)
 	wantAppend(t, l, "a", 1)
 	wantAppend(t, l, "b", 2)
@@ -556,7 +540,7 @@ func TestOpenMakesSure(t *testing.T) { // P16.2 and P16.4: what is there when th
 }
 
 func TestAppend(t *testing.T) { // P16.3
-	d := disk.New(ample)
+	d := disk.New(probe.Ample)
 	l := open(t, d, 1000, 1)
 	var all []string
 	for i, rec := range []string{"a", "", "\x00", framed("in a frame"), "\xb5", strings.Repeat("x", 62), strings.Repeat("y", 64), "last"} {
@@ -578,11 +562,11 @@ func TestAppend(t *testing.T) { // P16.3
 func TestAppendLong(t *testing.T) { // P16.3
 	full := strings.Repeat("r", 1<<18)
 	for _, size := range []int{1, 1000, 1 << 20} {
-		d := disk.New(ample)
+		d := disk.New(probe.Ample)
 		l := open(t, d, size, 1)
 		for range 2 { // into no record, and behind some
 			next := l.Next()
-			before := filesOf(d)
+			before := probe.Files(d)
 			for _, n := range []int{1<<18 + 1, 1 << 19, 1 << 20, 1<<20 + 1} {
 				wantRefused(t, l, strings.Repeat("r", n), api.ErrLong)
 				wantNumbers(t, l, 1, next, next-1, true)
@@ -600,7 +584,7 @@ func TestAppendTurns(t *testing.T) { // P16.3: a segment that is just full, and 
 	for records := 1; records < 5; records++ {
 		for _, step := range []int{0, 1, 57, 58, 59, 60, 100} {
 			for less := range 3 { // the last one is as long as it may be, one byte longer, two
-				d := disk.New(ample)
+				d := disk.New(probe.Ample)
 				ahead := slices.Repeat([]string{"abcd"}, records)
 				rec := strings.Repeat("r", step)
 				size := len(framed(ahead...)) + len(framed(rec)) - less
@@ -629,7 +613,7 @@ func TestAppendTurns(t *testing.T) { // P16.3: a segment that is just full, and 
 
 func TestAppendAboveSize(t *testing.T) { // P16.3: a record that alone is above size
 	long := strings.Repeat("l", 100)
-	d := disk.New(ample)
+	d := disk.New(probe.Ample)
 	l := open(t, d, 30, 1)
 	for i, rec := range []string{long, "a", long, long, "", "b"} {
 		wantAppend(t, l, rec, i+1)
@@ -641,7 +625,7 @@ func TestAppendAboveSize(t *testing.T) { // P16.3: a record that alone is above 
 }
 
 func TestAppendSyncsAheadOfSegment(t *testing.T) { // P16.3 and P16.5
-	d := disk.New(ample)
+	d := disk.New(probe.Ample)
 	l := open(t, d, 20, 1)
 	for i := range 3 {
 		wantAppend(t, l, "aaaa", i+1)
@@ -661,7 +645,7 @@ func TestAppendAtGreatest(t *testing.T) { // P16.3
 		for i := range tail {
 			wantAppend(t, l, "r", begin+i)
 		}
-		before, ops := filesOf(d), d.Ops()
+		before, ops := probe.Files(d), d.Ops()
 		sure := l.Sure()
 		wantRefused(t, l, strings.Repeat("r", 1<<18+1), api.ErrLong) // ahead of ErrRoom
 		for range 2 {
@@ -740,17 +724,17 @@ func TestAppendWithoutRoom(t *testing.T) { // P16.3: ErrRoom by the disk's room
 }
 
 func TestAppendToLongFile(t *testing.T) { // P16.3: ErrRoom by a file's length, of which disk says ErrLong
-	d := disk.New(ample)
+	d := disk.New(probe.Ample)
 	l := open(t, d, 20, 1)
 	d.Append(nameOf(1), make([]byte, 1<<20-9)) // behind the log's back
-	before := filesOf(d)
+	before := probe.Files(d)
 	wantRefused(t, l, "aaaa", api.ErrRoom)
 	wantNumbers(t, l, 1, 1, 0, true)
 	wantFiles(t, d, before)
 }
 
 func TestFileErrors(t *testing.T) { // P16.3: disk's error
-	d := disk.New(ample)
+	d := disk.New(probe.Ample)
 	l := open(t, d, 20, 1)
 	wantAppend(t, l, "aaaa", 1)
 	wantAppend(t, l, "aaaa", 2)
@@ -772,7 +756,7 @@ func TestFileErrors(t *testing.T) { // P16.3: disk's error
 }
 
 func TestSyncAlways(t *testing.T) { // P16.3: the last segment is synced, when all is sure too
-	d := disk.New(ample)
+	d := disk.New(probe.Ample)
 	l := open(t, d, 30, 1)
 	wantAppend(t, l, "aaaa", 1)
 	wantOK(t, "Sync", l.Sync())
@@ -784,7 +768,7 @@ func TestSyncAlways(t *testing.T) { // P16.3: the last segment is synced, when a
 }
 
 func TestSync(t *testing.T) { // P16.3 and P16.4
-	d := disk.New(ample)
+	d := disk.New(probe.Ample)
 	l := open(t, d, 30, 1)
 	wantOK(t, "Sync", l.Sync())
 	wantNumbers(t, l, 1, 1, 0, true)
@@ -810,7 +794,7 @@ func TestSync(t *testing.T) { // P16.3 and P16.4
 // ten tells a log of ten records, two a segment: 1, 3, 5, 7, 9.
 func ten(t *testing.T) (*disk.Disk, *wal.Log, []string) {
 	t.Helper()
-	d := disk.New(ample)
+	d := disk.New(probe.Ample)
 	l := open(t, d, 20, 1)
 	var all []string
 	for i := range 10 {
@@ -825,7 +809,7 @@ func TestRetire(t *testing.T) { // P16.3, P16.4 and P16.8
 	for _, lsn := range []int{math.MinInt, -1, 0, 1, 2, 3, 4, 5, 6, 7, 8, 9, 10, 11, 12, 1 << 32, greatest, math.MaxInt} {
 		d, l, all := ten(t)
 		first := 1 + 2*((min(max(lsn, 1), 9)-1)/2)
-		before := filesOf(d)
+		before := probe.Files(d)
 		for range 2 {
 			wantOK(t, "Retire", l.Retire(lsn))
 			wantNumbers(t, l, first, 11, 8, true)
@@ -848,7 +832,7 @@ func TestRetire(t *testing.T) { // P16.3, P16.4 and P16.8
 }
 
 func TestRetireAll(t *testing.T) { // P16.3: the last segment never goes
-	d := disk.New(ample)
+	d := disk.New(probe.Ample)
 	l := open(t, d, 1, 1)
 	wantOK(t, "Retire", l.Retire(greatest))
 	for i := range 200 { // in more segments than there may be at once
@@ -890,7 +874,7 @@ func TestPower(t *testing.T) { // P16.3 and P16.4: a failure since the log was o
 			d.Fail(1000)
 		}
 		for range 3 { // without power, with power, with a log that was opened since
-			before, ops := filesOf(d), d.Ops()
+			before, ops := probe.Files(d), d.Ops()
 			wantNumbers(t, l, 1, 11, 8, false)
 			wantRefused(t, l, "x", api.ErrPower)
 			wantRefused(t, l, strings.Repeat("x", 1<<18+1), api.ErrPower) // ahead of ErrLong
