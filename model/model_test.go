@@ -49,26 +49,9 @@ func cellOf(n, site int, v api.Vec, value string) api.Cell {
 	return api.Cell{Stamp: api.Stamp{N: n, Site: site}, Vec: v, Value: value}
 }
 
-// one tells the row whose cells are zero but for one.
-func one(l []api.Group, key string, group int, c api.Cell) api.Row {
-	r := api.Row{Key: key, Cells: make([]api.Cell, len(l))}
-	r.Cells[group] = c
-	return r
-}
-
 // ofTwo tells a row of a schema of two groups.
 func ofTwo(key string, a, b api.Cell) api.Row {
 	return api.Row{Key: key, Cells: []api.Cell{a, b}}
-}
-
-// same tells whether two rows are.
-func same(a, b api.Row) bool {
-	return a.Key == b.Key && slices.Equal(a.Cells, b.Cells)
-}
-
-// sameRows tells whether two lists of rows are.
-func sameRows(a, b []api.Row) bool {
-	return slices.EqualFunc(a, b, same)
 }
 
 // sameView tells whether two views are.
@@ -134,7 +117,7 @@ func states(l []api.Group) [][]api.Row {
 		var rows []api.Row
 		for i, key := range keys {
 			if key != "" {
-				rows = append(rows, one(l, key, most, cellOf(20+i, 1+i%2, api.Vec{9, 9}, key)))
+				rows = append(rows, probe.One(l, key, most, cellOf(20+i, 1+i%2, api.Vec{9, 9}, key)))
 			}
 		}
 		out = append(out, rows)
@@ -161,21 +144,6 @@ func wrong(l []api.Group, rows []api.Row) api.Errno {
 	return api.OK
 }
 
-// noStates tells rows by a schema that are no state, of at most two things that are wrong.
-func noStates(l []api.Group) [][]api.Row {
-	x := cellOf(5, 1, api.Vec{1, 0}, "x")
-	a, k, k0, m, bare := one(l, "a", 0, x), one(l, "k", 0, x), one(l, "k\x00", 0, x), one(l, "\x80", len(l)-1, x), one(l, "k", 0, api.Cell{})
-	out := [][]api.Row{
-		{bare}, {bare, m}, {a, bare}, {a, bare, m}, {bare, bare}, // a bare one
-		{k, k}, {a, k, k}, {k, k, m}, {k, bare}, // the same key
-		{k, a}, {m, k}, {k0, k}, {a, m, k}, {k, a, m}, {m, k, a}, {a, k0, k}, {a, k, a}, // keys that fall
-	}
-	for _, x := range probe.NoRows(l) {
-		out = append(out, []api.Row{x.Row}, []api.Row{a, x.Row}, []api.Row{x.Row, m}, []api.Row{a, x.Row, m}, []api.Row{bare, x.Row}, []api.Row{x.Row, bare}, []api.Row{m, a, x.Row}, []api.Row{x.Row, m, a}, []api.Row{m, x.Row})
-	}
-	return out
-}
-
 func wantGood(t *testing.T, l []api.Group, rows []api.Row, want api.Errno) {
 	t.Helper()
 	if e := model.Good(l, rows); e != want {
@@ -190,7 +158,7 @@ func TestGood(t *testing.T) { // P13.1
 		}
 		var many []api.Row
 		for i := range 1000 {
-			many = append(many, one(l, string([]byte{'k', byte(i / 256), byte(i)}), i%len(l), cellOf(1, 1, api.Vec{1, 0}, "")))
+			many = append(many, probe.One(l, string([]byte{'k', byte(i / 256), byte(i)}), i%len(l), cellOf(1, 1, api.Vec{1, 0}, "")))
 		}
 		for size := range 4 {
 			wantGood(t, l, many[:size], api.OK)
@@ -227,14 +195,14 @@ func TestGoodErrors(t *testing.T) { // P13.1
 		wantGood(t, ab, x.rows, x.want)
 	}
 	for _, l := range schemas {
-		for _, rows := range noStates(l) {
+		for _, rows := range probe.NoStates(l) {
 			if wrong(l, rows) == api.OK {
 				t.Fatalf("%v are a state", rows)
 			}
 			wantGood(t, l, rows, wrong(l, rows))
 		}
 		for _, x := range noSchemas { // policy's errors go ahead
-			for _, rows := range slices.Concat(states(l), noStates(l)) {
+			for _, rows := range slices.Concat(states(l), probe.NoStates(l)) {
 				wantGood(t, x.Groups, rows, x.Err)
 			}
 		}
@@ -247,7 +215,7 @@ func TestGoodErrors(t *testing.T) { // P13.1
 func TestGoodOfAny(t *testing.T) { // P13.1: up to three of some rows, however they stand
 	for _, l := range schemas {
 		x := cellOf(5, 1, api.Vec{1, 0}, "x")
-		pool := []api.Row{one(l, "a", 0, x), one(l, "k", 0, x), one(l, "k\x00", len(l)-1, x), one(l, "\xff", 0, x), one(l, "k", 0, api.Cell{}), {Key: "k"}, one(l, "", 0, x), one(l, "z", 0, api.Cell{Gone: true})}
+		pool := []api.Row{probe.One(l, "a", 0, x), probe.One(l, "k", 0, x), probe.One(l, "k\x00", len(l)-1, x), probe.One(l, "\xff", 0, x), probe.One(l, "k", 0, api.Cell{}), {Key: "k"}, probe.One(l, "", 0, x), probe.One(l, "z", 0, api.Cell{Gone: true})}
 		for _, a := range pool {
 			for _, b := range pool {
 				for _, c := range pool {
@@ -264,7 +232,7 @@ func TestGoodOfAny(t *testing.T) { // P13.1: up to three of some rows, however t
 func wantMerge(t *testing.T, l []api.Group, a, b, want []api.Row) {
 	t.Helper()
 	got, e := model.Merge(l, a, b)
-	if e != api.OK || !sameRows(got, want) {
+	if e != api.OK || !probe.SameRows(got, want) {
 		t.Fatalf("Merge(%v, %v, %v) = %v, %d, want %v", l, a, b, got, int(e), want)
 	}
 }
@@ -320,7 +288,7 @@ func TestMergeErrors(t *testing.T) { // P13.1
 	}
 	for _, l := range schemas {
 		good := states(l)[4]
-		bad := noStates(l)
+		bad := probe.NoStates(l)
 		for _, rows := range bad {
 			none(l, rows, good, wrong(l, rows))
 			none(l, good, rows, wrong(l, rows))
@@ -344,7 +312,7 @@ func TestMergeErrors(t *testing.T) { // P13.1
 func wantState(t *testing.T, l []api.Group, cs []api.Change, want []api.Row) {
 	t.Helper()
 	got, e := model.State(l, cs)
-	if e != api.OK || !sameRows(got, want) {
+	if e != api.OK || !probe.SameRows(got, want) {
 		t.Fatalf("State(%v, %v) = %v, %d, want %v", l, cs, got, int(e), want)
 	}
 	if e := model.Good(l, got); e != api.OK {
@@ -496,17 +464,17 @@ func TestWithin(t *testing.T) { // P13.2
 		for _, a := range all {
 			for _, b := range all {
 				both := mergeOf(l, a, b)
-				want(l, a, b, sameRows(both, b))
+				want(l, a, b, probe.SameRows(both, b))
 				want(l, a, both, true)
 				want(l, b, both, true)
-				want(l, both, a, sameRows(both, a))
+				want(l, both, a, probe.SameRows(both, a))
 			}
 			want(l, a, a, true)
 			for _, x := range noSchemas {
 				want(x.Groups, a, a, false)
 				want(x.Groups, nil, a, false)
 			}
-			for _, bad := range noStates(l) { // no state, on either side
+			for _, bad := range probe.NoStates(l) { // no state, on either side
 				want(l, bad, a, false)
 				want(l, a, bad, false)
 				want(l, bad, bad, false)
@@ -568,7 +536,7 @@ func TestGet(t *testing.T) { // P13.3
 				}
 			}
 		}
-		for _, rows := range noStates(l) {
+		for _, rows := range probe.NoStates(l) {
 			for _, key := range append([]string{"m"}, someKeys...) {
 				want(l, rows, key, api.View{}, false)
 			}
@@ -641,7 +609,7 @@ func TestScan(t *testing.T) { // P13.3
 				}
 			}
 		}
-		for _, rows := range noStates(l) {
+		for _, rows := range probe.NoStates(l) {
 			for _, from := range []string{"", "a", "k", "z", "\xff"} {
 				for _, n := range []int{-1, 0, 1, 9} {
 					wantScan(t, l, rows, from, "", n)
@@ -732,28 +700,13 @@ func TestKnowsAll(t *testing.T) { // P13.6
 	}
 }
 
-// roomy tells rows with spare room behind them and behind their cells, full of what could be taken for more, and a check that all that memory stays as it is.
+// roomy tells rows with spare room behind them and behind their cells, and a check that all that memory stays as it is.
 func roomy(t *testing.T, l []api.Group, rows []api.Row) ([]api.Row, func()) {
 	t.Helper()
-	part, whole := probe.Roomy(rows, one(l, "\xff\xff\xff\xff", 0, cellOf(5, 1, api.Vec{1, 0}, "spare")))
-	var cells [][]api.Cell
-	for i := range part {
-		own, all := probe.Roomy(part[i].Cells, cellOf(99, 2, api.Vec{9, 9}, "spare"))
-		part[i].Cells = own
-		cells = append(cells, all)
-	}
-	before, cellsBefore := slices.Clone(whole), make([][]api.Cell, len(cells))
-	for i, all := range cells {
-		cellsBefore[i] = slices.Clone(all)
-	}
+	part, stays := probe.RoomyRows(l, rows)
 	return part, func() {
 		t.Helper()
-		for i, all := range cells {
-			if !slices.Equal(all, cellsBefore[i]) || &part[i].Cells[:1][0] != &all[0] {
-				t.Fatalf("the cells of %v were changed", rows)
-			}
-		}
-		if !sameRows(whole, before) {
+		if !stays() {
 			t.Fatalf("the memory of %v was changed", rows)
 		}
 	}
@@ -763,7 +716,7 @@ func TestHandedInStays(t *testing.T) { // rules 4 and 8
 	for _, l := range schemas {
 		groups, allGroups := probe.Roomy(l, api.Group{Name: "spare", Policy: del})
 		groupsBefore := slices.Clone(allGroups)
-		all := slices.Concat(states(l), noStates(l))
+		all := slices.Concat(states(l), probe.NoStates(l))
 		for i, plain := range all {
 			a, stays := roomy(t, l, plain)
 			other := all[(i*7+3)%len(all)]
@@ -771,7 +724,7 @@ func TestHandedInStays(t *testing.T) { // rules 4 and 8
 			wantGood(t, groups, a, wrong(l, plain))
 			got, e := model.Merge(groups, a, b)
 			want, wantE := model.Merge(l, plain, other)
-			if e != wantE || !sameRows(got, want) {
+			if e != wantE || !probe.SameRows(got, want) {
 				t.Fatalf("Merge hangs on spare room: %v, %d, want %v, %d", got, int(e), want, int(wantE))
 			}
 			if model.Within(groups, a, b) != model.Within(l, plain, other) || model.Within(groups, b, a) != model.Within(l, other, plain) {
@@ -798,7 +751,7 @@ func TestHandedInStays(t *testing.T) { // rules 4 and 8
 			spare := len(whole) - len(part)
 			got, e := model.State(groups, part)
 			want, wantE := model.State(l, cs)
-			if e != wantE || !sameRows(got, want) {
+			if e != wantE || !probe.SameRows(got, want) {
 				t.Fatalf("State hangs on spare room: %v, %d, want %v, %d", got, int(e), want, int(wantE))
 			}
 			for i, all := range writes {
@@ -830,7 +783,7 @@ func TestNothingIsKept(t *testing.T) { // rule 4
 				clear(r.Cells)
 			}
 			clear(rows)
-			if !sameRows(merged, plain) || !sameRows(alone, plain) || !sameViews(views, want) {
+			if !probe.SameRows(merged, plain) || !probe.SameRows(alone, plain) || !sameViews(views, want) {
 				t.Fatalf("what was handed out of %v hangs on what was handed in", plain)
 			}
 		}
@@ -840,7 +793,7 @@ func TestNothingIsKept(t *testing.T) { // rule 4
 			rows, _ := model.State(l, cs)
 			clear(cs[0].Writes)
 			clear(cs)
-			if want := stateOf(l, []api.Change{plain}); !sameRows(rows, want) {
+			if want := stateOf(l, []api.Change{plain}); !probe.SameRows(rows, want) {
 				t.Fatalf("the state of %v has become %v", plain, rows)
 			}
 		}

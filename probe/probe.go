@@ -1,4 +1,4 @@
-// Package probe helps the layers' tests: it tells bytes as they are to be, schemas, changes and what is none, rows that are not good, disks with files, and looks at memory. The program itself calls none of it.
+// Package probe helps the layers' tests: it tells bytes as they are to be, schemas, changes, states and what is none, disks with files, and looks at memory. The program itself calls none of it.
 package probe
 
 import "slices"

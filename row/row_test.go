@@ -74,19 +74,12 @@ func notOf(policy int) []api.Cell {
 	return slices.Concat(badCells, lastCells)
 }
 
-// one tells the row whose cells are zero but for one.
-func one(l []api.Group, key string, group int, c api.Cell) api.Row {
-	r := api.Row{Key: key, Cells: make([]api.Cell, len(l))}
-	r.Cells[group] = c
-	return r
-}
-
 // some tells rows of a schema that are good, of one key; always the same ones.
 func some(l []api.Group, key string) []api.Row {
-	out := []api.Row{one(l, key, 0, api.Cell{})}
+	out := []api.Row{probe.One(l, key, 0, api.Cell{})}
 	for i, g := range l {
 		for _, c := range of(g.Policy) {
-			out = append(out, one(l, key, i, c))
+			out = append(out, probe.One(l, key, i, c))
 		}
 	}
 	r := rand.New(rand.NewPCG(61, 62))
@@ -106,7 +99,7 @@ func faulty(l []api.Group) []api.Row {
 	for i, g := range l {
 		for _, c := range notOf(g.Policy) {
 			for _, key := range []string{"k", "", longKeys[0]} {
-				out = append(out, one(l, key, i, c))
+				out = append(out, probe.One(l, key, i, c))
 			}
 		}
 	}
@@ -172,11 +165,11 @@ func TestGood(t *testing.T) { // P10.1
 		}
 		for i, g := range l {
 			for _, c := range of(g.Policy) {
-				wantGood(t, l, one(l, "k", i, c), api.OK)
+				wantGood(t, l, probe.One(l, "k", i, c), api.OK)
 			}
 			for _, c := range notOf(g.Policy) {
-				wantGood(t, l, one(l, "k", i, c), api.ErrCell)
-				wantGood(t, l, one(l, key32, i, c), api.ErrCell)
+				wantGood(t, l, probe.One(l, "k", i, c), api.ErrCell)
+				wantGood(t, l, probe.One(l, key32, i, c), api.ErrCell)
 			}
 		}
 		for size := range 300 {
@@ -184,7 +177,7 @@ func TestGood(t *testing.T) { // P10.1
 			if size == 0 {
 				want = api.ErrArg
 			}
-			wantGood(t, l, one(l, strings.Repeat("\x80", size), 0, bothCells[1]), want)
+			wantGood(t, l, probe.One(l, strings.Repeat("\x80", size), 0, bothCells[1]), want)
 			cells := make([]api.Cell, size)
 			want = map[bool]api.Errno{true: api.OK, false: api.ErrRow}[size == len(l)]
 			wantGood(t, l, api.Row{Key: "k", Cells: cells}, want)
@@ -335,7 +328,7 @@ func TestWriteErrors(t *testing.T) { // P10.2
 		}
 		for i, g := range l {
 			for _, c := range notOf(g.Policy) {
-				wantNoWrite(t, l, one(l, "k", 0, api.Cell{}), i, c, api.ErrCell)
+				wantNoWrite(t, l, probe.One(l, "k", 0, api.Cell{}), i, c, api.ErrCell)
 			}
 		}
 	}
@@ -376,7 +369,7 @@ func TestJoin(t *testing.T) { // P10.2
 
 func TestJoinErrors(t *testing.T) { // P10.2
 	for _, l := range schemas {
-		good, other := one(l, "k", 0, bothCells[1]), one(l, "m", 0, bothCells[1])
+		good, other := probe.One(l, "k", 0, bothCells[1]), probe.One(l, "m", 0, bothCells[1])
 		bad := faulty(l)
 		for i, r := range bad {
 			e := wrong(l, r)
@@ -396,11 +389,11 @@ func TestJoinErrors(t *testing.T) { // P10.2
 		for i, a := range goodKeys {
 			for k, b := range goodKeys {
 				if i != k {
-					wantNoJoin(t, l, one(l, a, 0, api.Cell{}), one(l, b, 0, api.Cell{}), api.ErrRow)
+					wantNoJoin(t, l, probe.One(l, a, 0, api.Cell{}), probe.One(l, b, 0, api.Cell{}), api.ErrRow)
 				}
 			}
 		}
-		wantNoJoin(t, l, one(l, "k", 0, api.Cell{}), one(l, "k\x00", 0, api.Cell{}), api.ErrRow)
+		wantNoJoin(t, l, probe.One(l, "k", 0, api.Cell{}), probe.One(l, "k\x00", 0, api.Cell{}), api.ErrRow)
 		for _, x := range noSchemas {
 			wantNoJoin(t, x.Groups, good, good, x.Err)
 			wantNoJoin(t, x.Groups, good, other, x.Err)
@@ -491,13 +484,13 @@ func TestView(t *testing.T) { // P10.3
 		all := api.Row{Key: key32}
 		var fields []api.Field
 		for i := range l {
-			wantView(t, l, one(l, "k", i, x), api.Field{Group: i, Value: "x"})
-			wantView(t, l, one(l, "\xff", i, put(5, 1, api.Vec{}, "")), api.Field{Group: i})
+			wantView(t, l, probe.One(l, "k", i, x), api.Field{Group: i, Value: "x"})
+			wantView(t, l, probe.One(l, "\xff", i, put(5, 1, api.Vec{}, "")), api.Field{Group: i})
 			value := strings.Repeat("v", i)
 			all.Cells, fields = append(all.Cells, put(9-i, 2, api.Vec{}, value)), append(fields, api.Field{Group: i, Value: value})
 		}
 		wantView(t, l, all, fields...)
-		wantNoView(t, l, one(l, "k", 0, api.Cell{}))
+		wantNoView(t, l, probe.One(l, "k", 0, api.Cell{}))
 		for _, r := range some(l, "key") {
 			var want []api.Field
 			for i, c := range r.Cells {
@@ -570,7 +563,7 @@ func TestPut(t *testing.T) { // P10.4
 		wantPut(t, ahead, ab, api.Row{Key: "key", Cells: []api.Cell{x, {Dead: api.Vec{2, 1}}}}, "\x03key\x01\x0d\x00\x01\x01x\x04\x02\x01")
 		wantPut(t, ahead, schemas[3], api.Row{Key: "key", Cells: []api.Cell{{Dead: api.Vec{2, 1}}, x}}, "\x03key\x04\x02\x01\x01\x0d\x00\x01\x01x")
 		wantPut(t, ahead, ab, api.Row{Key: key32, Cells: []api.Cell{{Stamp: x.Stamp, Vec: x.Vec, Gone: true}, over(x, 2, 1)}}, "\x20"+key32+"\x03\x0d\x00\x01\x05\x0d\x00\x01\x01x\x02\x01")
-		wantPut(t, ahead, schemas[5], one(schemas[5], "\x00", 3, x), "\x01\x00\x00\x00\x00\x01\x0d\x00\x01\x01x")
+		wantPut(t, ahead, schemas[5], probe.One(schemas[5], "\x00", 3, x), "\x01\x00\x00\x00\x00\x01\x0d\x00\x01\x01x")
 		for _, l := range schemas {
 			for _, key := range goodKeys {
 				for _, r := range some(l, key) {
@@ -591,7 +584,7 @@ func TestPutOfBad(t *testing.T) { // P10.4
 				wantPut(t, ahead, l, r, "")
 			}
 			for _, x := range noSchemas {
-				wantPut(t, ahead, x.Groups, one(l, "k", 0, bothCells[1]), "")
+				wantPut(t, ahead, x.Groups, probe.One(l, "k", 0, bothCells[1]), "")
 				wantPut(t, ahead, x.Groups, api.Row{}, "")
 				wantPut(t, ahead, x.Groups, api.Row{Key: "k", Cells: make([]api.Cell, len(x.Groups))}, "")
 			}
@@ -746,7 +739,7 @@ func TestLattice(t *testing.T) { // P10.5
 			}
 			wantJoin(t, l, a, a, a)
 			wantJoin(t, l, all, all, all)
-			wantJoin(t, l, a, one(l, "k", 0, api.Cell{}), a)
+			wantJoin(t, l, a, probe.One(l, "k", 0, api.Cell{}), a)
 			wantGood(t, l, all, api.OK)
 		}
 	}
@@ -823,7 +816,7 @@ func checkAlike(t *testing.T, l, clipped []api.Group, r, bare api.Row) {
 	t.Helper()
 	clipped, bare.Cells = slices.Clip(slices.Clone(clipped)), slices.Clip(slices.Clone(bare.Cells))
 	wantGood(t, l, r, row.Good(clipped, bare))
-	full := one(clipped, "k", len(l)-1, bothCells[4])
+	full := probe.One(clipped, "k", len(l)-1, bothCells[4])
 	n1, e1 := row.New(l, r.Key)
 	n2, e2 := row.New(clipped, bare.Key)
 	w1, e3 := row.Write(l, r, len(l)-1, bothCells[3])
@@ -864,7 +857,7 @@ func TestHandedOutIsNew(t *testing.T) { // rule 4
 					t.Fatalf("%.120v: %d", r, int(e))
 				}
 			}
-			bare := one(l, "k", 0, api.Cell{})
+			bare := probe.One(l, "k", 0, api.Cell{})
 			lists = append(lists, bare.Cells)
 			for range 2 {
 				add(row.New(l, "k"))
